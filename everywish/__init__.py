@@ -1,0 +1,1 @@
+"""Everywish: lamps set by a friend and a foe."""
